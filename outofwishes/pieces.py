@@ -67,13 +67,11 @@ class Reader:
         self._sorts = {}
 
     def takes(self, piece):
-        """Take this word or sign, or "" for the end, if it is next; tell whether it was."""
+        """Take this word or sign, or "" for the end, behind which nothing is read; tell whether it was next."""
         self._sorts[piece] = True
         if self._next() != piece:
             return False
-        # Nothing is behind the end: it stays next.
-        if piece != "":
-            self._go_on()
+        self._go_on()
         return True
 
     def needs(self, piece):

@@ -59,7 +59,7 @@ def places(program):
 
 
 def _visit_at(program, place):
-    """The pair of what stands at a place and the names known there."""
+    """The pair of what stands at a place and the names known there, both new."""
     if not isinstance(program, Program):
         raise BadProgram(program)
     if not is_list(place):
@@ -76,12 +76,12 @@ def _visit_at(program, place):
 
 def statement_at(program, place):
     """The statement that stands at a place."""
-    return told_statement(_visit_at(program, place)[0])
+    return _visit_at(program, place)[0]
 
 
 def known_at(program, place):
     """The list of the names known at a place, the inputs first, then from above."""
-    return list(_visit_at(program, place)[1])
+    return _visit_at(program, place)[1]
 
 
 def _first_tried(statement, numbers):

@@ -216,6 +216,7 @@ class Faults(unittest.TestCase):
             (HEAD + "all(", len(HEAD) + 4, ["(", ")", "-", "all", "any", "name", "not", "number"]), (HEAD + "all()", None, None),
             (HEAD + "all() all()", len(HEAD) + 6, ["", "and", "or"]), (HEAD + "not all(x = 1 or a = 1", len(HEAD) + 22, [")", "*", "+", "-", "or"]),
             ("of nothing give nothing: ", 25, ["(", "-", "all", "any", "not", "number"]), ("of nothing give nothing: 3 * x", 27, signs + ["divides"]),
+            ("of a give nothing: ", 19, unit), ("of nothing give a: 3", 20, ["*"] + signs + ["divides"]),
             ("of nothing give nothing: 3 = 3 * 3", 31, ["", "+", "-", "and", "or"]), ("of nothing give nothing: -x", 26, ["number"]),
         ]:
             told = None if place is None else (place, sorts)
