@@ -2,11 +2,11 @@
 
 from math import gcd
 
-from outofwishes.bodies import is_body, is_test, told_body, told_test
-from outofwishes.errors import BadBody, BadCase, BadSystem, BadTest
+from outofwishes.bodies import is_body, is_test, told_test
+from outofwishes.errors import BadBody, BadCase, BadTest
 from outofwishes.kinds import is_list
 from outofwishes.terms import less, names_of, told_term, turned
-from outofwishes.wishes import System
+from outofwishes.wishes import check_system
 
 
 def _denied_test(test):
@@ -102,25 +102,24 @@ def tight(test):
     return _tight_by(test[1], test[2])
 
 
-def _flatten(body, tests, anys):
+def flatten(body, tests, anys):
     """Put a plain body behind the tests, or behind the anys, opened as far as it is sure."""
     if body[0] == "any" and len(body[1]) != 1:
         anys.append(body[1])
     elif body[0] in ("all", "any"):
         for inner in body[1]:
-            _flatten(inner, tests, anys)
+            flatten(inner, tests, anys)
     else:
         tests.append(body)
 
 
 def flat(system):
     """The pair of the tests that are all to be so, and the lists of bodies of each of which one is."""
-    if not isinstance(system, System):
-        raise BadSystem(system)
+    check_system(system)
     tests = []
     anys = []
     for body in system.bodies():
-        _flatten(_without_not(body, True), tests, anys)
+        flatten(_without_not(body, True), tests, anys)
     return (tests, anys)
 
 

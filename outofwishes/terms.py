@@ -56,9 +56,14 @@ def less(term, number):
     return told_term((term[0], term[1] - number))
 
 
+def change_along(term, ray):
+    """By how much a term changes along a ray that lacks none of its names."""
+    return sum([term[0][name] * ray[name] for name in names_of(term)])
+
+
 def value_of(term, numbers):
     """What a term comes to at numbers that lack none of its names."""
-    return term[1] + sum([term[0][name] * numbers[name] for name in names_of(term)])
+    return term[1] + change_along(term, numbers)
 
 
 def tidy(term):

@@ -1,8 +1,9 @@
 """Wishes of outputs for inputs, and systems of bodies that are all to be so."""
 
 from outofwishes.bodies import is_body, is_so, names_of_bodies, told_body
-from outofwishes.errors import BadBodies, BadBody, BadFound, BadGiven, BadNames, BadSystem, StrangeName
+from outofwishes.errors import BadBodies, BadBody, BadFound, BadGiven, BadNames, BadSystem, BadTerm, StrangeName
 from outofwishes.kinds import bad_name_at, check_inputs_outputs, is_list, is_numbers_of
+from outofwishes.terms import is_term, names_of
 
 
 def check_no_stranger(bodies, names):
@@ -92,10 +93,25 @@ class System:
         return [told_body(body) for body in self._bodies]
 
 
-def is_point(system, thing):
-    """Whether any object is a point of a system: just its names, and all its bodies are so."""
+def check_system(system):
+    """Raise BadSystem for what is no System."""
     if not isinstance(system, System):
         raise BadSystem(system)
+
+
+def check_term(system, term):
+    """Raise BadTerm for what is no term, StrangeName for the first name of it that is none of the system's."""
+    if not is_term(term):
+        raise BadTerm(term)
+    names = system.names()
+    for name in names_of(term):
+        if name not in names:
+            raise StrangeName(name)
+
+
+def is_point(system, thing):
+    """Whether any object is a point of a system: just its names, and all its bodies are so."""
+    check_system(system)
     if not is_numbers_of(thing, system.names()):
         return False
     return is_so(("all", system.bodies()), thing)
