@@ -149,13 +149,8 @@ def is_loose_least(system, term, thing):
 def loose_quarrel(system):
     """The indexes of tests that have no loose point together, but one without any of them; None if all have one."""
     tests = _loose_tests(system)
-    names = system.names()
-    tableau, fractions = _settled(tests, names)
+    tableau, fractions = _settled(tests, system.names())
     if tableau is not None:
         return None
-    kept = sorted(fractions)
-    for index in list(kept):
-        others = [other for other in kept if other != index]
-        if _settled([tests[other] for other in others], names)[0] is None:
-            kept = others
-    return kept
+    # No term of these tests, with its constant, is made of the others': so the sum wants each of them.
+    return sorted(fractions)

@@ -2,9 +2,12 @@
 
 from outofwishes.bodies import term_of
 from outofwishes.errors import BadIndexes, NoRow
+from outofwishes.flats import flat
 from outofwishes.kinds import is_list, is_whole
 from outofwishes.leasts import least_of
 from outofwishes.papers import is_paper
+from outofwishes.proofs import needs_some
+from outofwishes.search import answer_of
 from outofwishes.terms import less, turned
 from outofwishes.wholes import paper_of, point_of
 from outofwishes.wishes import System, check_system, is_point
@@ -42,11 +45,24 @@ def others_of(indexes, index):
     return [other for other in indexes if other != index]
 
 
+def _needed_for(proof, system, tests, anys):
+    """The indexes of the bodies that a proof needs, by the marks of the flat system's tests and anys, in order."""
+    found = []
+    for index in range(len(system.bodies())):
+        own_tests, own_anys = flat(part_of(system, [index]))
+        if needs_some(proof, tests[:len(own_tests)] + anys[:len(own_anys)]):
+            found.append(index)
+        tests, anys = tests[len(own_tests):], anys[len(own_anys):]
+    return found
+
+
 def quarrel(system):
     """Indexes of bodies that have no point, with a paper, and for each of them a point of the others; or None."""
-    if point_of(system) is not None:
+    answer = answer_of(system)
+    if answer.proof is None:
         return None
-    kept = list(range(len(system.bodies())))
+    # What a proof does not need can be spared: so fewer have to be tried, and of sums few are left.
+    kept = _needed_for(answer.proof, system, answer.tests, answer.anys)
     points = {}
     for index in list(kept):
         points[index] = point_of(part_of(system, others_of(kept, index)))

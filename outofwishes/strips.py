@@ -8,7 +8,7 @@ from outofwishes.vectors import dot, stepped, unit_vectors
 
 # How finely directions and middles are measured; this tells only where to look first.
 FINE = 64
-MOST_ROUNDS = 4
+MOST_ROUNDS = 8
 
 
 class Strip:

@@ -67,28 +67,26 @@ def _first_bodies(statement, number):
     return [same] + [_failed(statement, below) for below in range(number)] + list(statement[3])
 
 
-def _turns(trip):
-    """The pairs of a turn and the trip with one statement more, in the order of the ways; none from a give or none."""
+def _onward(trip):
+    """The trips with one statement more, in the order of the ways; none from a give or none."""
     statement = trip.there
     kind = statement[0]
     if kind in ("give", "none"):
         return []
     if kind == "if":
-        return [
-            (0, trip.onward([], [statement[1]], 1, statement[2])),
-            (1, trip.onward([], [("not", statement[1])], 1, statement[3])),
-        ]
+        denied = ("not", statement[1])
+        return [trip.onward([], [statement[1]], 1, statement[2]), trip.onward([], [denied], 1, statement[3])]
     name = statement[1]
     if kind == "let":
-        return [(0, trip.onward([name], _let_bodies(name, statement[2], statement[3]), 1, statement[4]))]
+        return [trip.onward([name], _let_bodies(name, statement[2], statement[3]), 1, statement[4])]
     if kind == "most":
-        return [(0, trip.onward([name], _most_bodies(name, statement[2]), 1, statement[3]))]
+        return [trip.onward([name], _most_bodies(name, statement[2]), 1, statement[3])]
     count = statement[2]
     found = []
     for number in range(count):
-        found.append((0, trip.onward([name], _first_bodies(statement, number), number + 1, statement[4])))
+        found.append(trip.onward([name], _first_bodies(statement, number), number + 1, statement[4]))
     failed = [_failed(statement, number) for number in range(count)]
-    return found + [(1, trip.onward([], failed, count, statement[5]))]
+    return found + [trip.onward([], failed, count, statement[5])]
 
 
 def trips_of(program):
@@ -97,11 +95,11 @@ def trips_of(program):
     ahead = [Trip(program.inputs(), [], 0, program.statement())]
     while len(ahead) > 0:
         trip = ahead.pop()
-        turns = _turns(trip)
-        if len(turns) == 0:
+        further = _onward(trip)
+        if len(further) == 0:
             found.append(trip.onward([], [], 1, trip.there))
-        for _, further in reversed(turns):
-            ahead.append(further)
+        for one in reversed(further):
+            ahead.append(one)
     return found
 
 

@@ -20,7 +20,30 @@ INTERFACE = {
     "programtexts": "read_program program_fault program_text",
     "flats": "plain denied tight flat cases",
     "programs": "Program is_statement places statement_at known_at run steps trail most_by_text",
+    "equations": "solution is_solution gauge is_gauge mix_of",
+    "loose": "is_loose_point loose_point loose_sum is_loose_sum loose_least is_loose_least loose_quarrel",
+    "papers": "is_paper flaw",
+    "wholes": "point_of paper_of",
+    "leasts": "least_of is_end",
+    "quarrels": "part quarrel is_quarrel needed loosened",
+    "heldagainst": "against follows alike parted core is_core",
+    "ways": "ways way_at",
+    "judged": "questions papers_for wrong_at is_right are_papers_for is_wrong_at",
 }
+PARAMETERS = {
+    "mix_of": "system solution point", "loose_least": "system term", "is_loose_least": "system term thing", "least_of": "system term",
+    "is_end": "system term thing", "part": "system indexes", "loosened": "system index", "way_at": "program given", "ways": "program",
+    "is_solution": "system thing", "is_gauge": "system thing", "is_loose_point": "system thing", "is_loose_sum": "system thing",
+    "is_paper": "system thing", "flaw": "system thing", "is_quarrel": "system thing", "is_core": "system thing",
+    "are_papers_for": "program wish thing", "is_wrong_at": "program wish thing",
+}
+PARAMETERS.update({name: "names one other" for name in "against follows alike parted".split()})
+PARAMETERS.update({name: "program wish" for name in "questions papers_for wrong_at is_right".split()})
+PARAMETERS.update({
+    name: "system" for name in "solution gauge loose_point loose_sum loose_quarrel point_of paper_of quarrel needed core".split()
+})
+ITERABLE = {"range", "zip", "enumerate", "reversed", "items", "keys", "values"}
+TAKERS = {"list", "tuple", "dict", "sorted", "sum", "any", "all", "enumerate", "zip", "min", "max"}
 METHODS = {
     "Wish": "inputs outputs body does __eq__", "System": "names bodies __eq__", "Program": "inputs outputs statement __eq__",
 }
@@ -28,6 +51,21 @@ METHODS = {
 
 def tree_of(path):
     return ast.parse(path.read_text(encoding="ascii"))
+
+
+def name_of(node):
+    """The bare name or the last word of what is called, None if nothing is called."""
+    called = node.func if isinstance(node, ast.Call) else None
+    return getattr(called, "id", getattr(called, "attr", None))
+
+
+def is_iterated_at_once(node, above):
+    """Whether a range, zip, enumerate, reversed or view stands where it is gone over on the spot."""
+    if isinstance(above, (ast.For, ast.comprehension)):
+        return above.iter is node
+    if name_of(above) == "reversed" and name_of(node) == "range":
+        return True
+    return name_of(above) in TAKERS and (above.args[0] is node or name_of(above) == "zip")
 
 
 def bound_names(tree):
@@ -112,10 +150,34 @@ class Language(unittest.TestCase):
                 if isinstance(node, ast.Compare) and isinstance(node.ops[0], (ast.Is, ast.IsNot)):
                     self.assertIn(ast.unparse(node.comparators[0]), ["None", "True", "False"])
 
+    def test_iterated_at_once(self):
+        for path in FILES:
+            for above in ast.walk(tree_of(path)):
+                for node in ast.iter_child_nodes(above):
+                    if name_of(node) in ITERABLE:
+                        self.assertTrue(is_iterated_at_once(node, above), (path.name, node.lineno))
+
+    def test_no_name_is_a_method_and_an_attribute_of_a_class(self):
+        for path in FILES:
+            for node in ast.walk(tree_of(path)):
+                if isinstance(node, ast.ClassDef):
+                    methods = {one.name for one in node.body if isinstance(one, ast.FunctionDef)}
+                    kept = {one.attr for one in ast.walk(node) if isinstance(one, ast.Attribute) and isinstance(one.ctx, ast.Store)}
+                    self.assertEqual(methods & kept, set(), (path.name, node.name))
+
+    def test_nothing_is_imported_in_vain(self):
+        for path in FILES:
+            tree = tree_of(path)
+            names = [one.name for node in tree.body if isinstance(node, ast.ImportFrom) for one in node.names]
+            used = {node.id for node in ast.walk(tree) if isinstance(node, ast.Name)}
+            self.assertEqual([name for name in names if name not in used], [], path.name)
+
     def test_interface_is_defined_where_it_is_listed(self):
         for stem, names in INTERFACE.items():
             own = {node.name: node for node in tree_of(FOLDER / f"{stem}.py").body if isinstance(node, (ast.FunctionDef, ast.ClassDef))}
             for name in names.split():
                 self.assertIn(name, own)
                 methods = [one.name for one in own[name].body if isinstance(one, ast.FunctionDef)]
+                if name in PARAMETERS:
+                    self.assertEqual([one.arg for one in own[name].args.args], PARAMETERS[name].split(), name)
                 self.assertLessEqual(set(METHODS.get(name, "").split()), set(methods))
