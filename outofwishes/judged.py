@@ -1,20 +1,19 @@
 """Programs held against wishes: right at all inputs, with papers, or wrong at some."""
 
-from outofwishes.errors import BadWish, UnlikeNames
+from outofwishes.errors import UnlikeNames
 from outofwishes.kinds import is_list, is_numbers_of
 from outofwishes.papers import is_paper
 from outofwishes.programs import run
 from outofwishes.putting import put_in_body
+from outofwishes.together import papers_of_all, part_of_point, point_of_some
 from outofwishes.ways import check_program, trips_of
-from outofwishes.wholes import paper_of, point_of
-from outofwishes.wishes import System, Wish
+from outofwishes.wishes import System, check_wish
 
 
 def check_for_wish(program, wish):
     """Raise BadProgram, BadWish, or UnlikeNames if the program is not for the wish."""
     check_program(program)
-    if not isinstance(wish, Wish):
-        raise BadWish(wish)
+    check_wish(wish)
     if program.inputs() != wish.inputs() or program.outputs() != wish.outputs():
         raise UnlikeNames()
 
@@ -36,28 +35,16 @@ def questions(program, wish):
 
 def papers_for(program, wish):
     """A paper for each question, None if some question has a point."""
-    papers = []
-    for question in questions(program, wish):
-        paper = paper_of(question)
-        if paper is None:
-            return None
-        papers.append(paper)
-    return papers
-
-
-def _told(point, names):
-    """The numbers of some names of a point, told."""
-    return {name: point[name] for name in sorted(names)}
+    return papers_of_all(questions(program, wish))
 
 
 def wrong_at(program, wish):
     """The pair of inputs at which the program is wrong, and outputs that do where it tells none; or None."""
-    for question in questions(program, wish):
-        point = point_of(question)
-        if point is not None:
-            given = _told(point, wish.inputs())
-            return (given, _told(point, wish.outputs()) if run(program, given) is None else None)
-    return None
+    point = point_of_some(questions(program, wish))
+    if point is None:
+        return None
+    given = part_of_point(point, wish.inputs())
+    return (given, part_of_point(point, wish.outputs()) if run(program, given) is None else None)
 
 
 def is_right(program, wish):

@@ -43,13 +43,13 @@ def _beside(name, term):
     return sum_of([({name: 1}, 0), turned(term)])
 
 
-def _let_bodies(name, number, term):
+def let_bodies(name, number, term):
     """What says that a name is a term, divided and rounded down."""
     above = sum_of([term, ({name: -number}, 0)])
     return [("row", above), ("row", less(turned(above), 1 - number))]
 
 
-def _most_bodies(name, terms):
+def most_bodies(name, terms):
     """What says that a name is the greatest of some terms."""
     rows = [("row", _beside(name, term)) for term in terms]
     return rows + [("any", [("same", _beside(name, term)) for term in terms])]
@@ -68,38 +68,51 @@ def _first_bodies(statement, number):
 
 
 def _onward(trip):
-    """The trips with one statement more, in the order of the ways; none from a give or none."""
+    """The pairs of a turn and the trip with one statement more, in the order of the ways; none from a give or none."""
     statement = trip.there
     kind = statement[0]
     if kind in ("give", "none"):
         return []
     if kind == "if":
         denied = ("not", statement[1])
-        return [trip.onward([], [statement[1]], 1, statement[2]), trip.onward([], [denied], 1, statement[3])]
+        return [(0, trip.onward([], [statement[1]], 1, statement[2])), (1, trip.onward([], [denied], 1, statement[3]))]
     name = statement[1]
     if kind == "let":
-        return [trip.onward([name], _let_bodies(name, statement[2], statement[3]), 1, statement[4])]
+        return [(0, trip.onward([name], let_bodies(name, statement[2], statement[3]), 1, statement[4]))]
     if kind == "most":
-        return [trip.onward([name], _most_bodies(name, statement[2]), 1, statement[3])]
+        return [(0, trip.onward([name], most_bodies(name, statement[2]), 1, statement[3]))]
     count = statement[2]
     found = []
     for number in range(count):
-        found.append(trip.onward([name], _first_bodies(statement, number), number + 1, statement[4]))
+        found.append((0, trip.onward([name], _first_bodies(statement, number), number + 1, statement[4])))
     failed = [_failed(statement, number) for number in range(count)]
-    return found + [trip.onward([], failed, count, statement[5])]
+    return found + [(1, trip.onward([], failed, count, statement[5]))]
+
+
+def _first_trip(program):
+    """The trip that has come to the whole program and no farther."""
+    return Trip(program.inputs(), [], 0, program.statement())
 
 
 def trips_of(program):
     """The trips of all ways to some give or none, in the order of the ways."""
     found = []
-    ahead = [Trip(program.inputs(), [], 0, program.statement())]
+    ahead = [_first_trip(program)]
     while len(ahead) > 0:
         trip = ahead.pop()
         further = _onward(trip)
         if len(further) == 0:
             found.append(trip.onward([], [], 1, trip.there))
-        for one in reversed(further):
+        for _, one in reversed(further):
             ahead.append(one)
+    return found
+
+
+def trips_to(program, place):
+    """The trips of all ways down to a place of a program, in the order of the ways."""
+    found = [_first_trip(program)]
+    for turn in place:
+        found = [one for trip in found for to, one in _onward(trip) if to == turn]
     return found
 
 

@@ -1,7 +1,17 @@
 """Wishes of outputs for inputs, and systems of bodies that are all to be so."""
 
 from outofwishes.bodies import is_body, is_so, names_of_bodies, told_body
-from outofwishes.errors import BadBodies, BadBody, BadFound, BadGiven, BadNames, BadSystem, BadTerm, StrangeName
+from outofwishes.errors import (
+    BadBodies,
+    BadBody,
+    BadFound,
+    BadGiven,
+    BadNames,
+    BadSystem,
+    BadTerm,
+    BadWish,
+    StrangeName,
+)
 from outofwishes.kinds import bad_name_at, check_inputs_outputs, is_list, is_numbers_of
 from outofwishes.terms import is_term, names_of
 
@@ -55,6 +65,12 @@ class Wish:
         for name in self._outputs:
             numbers[name] = found[name]
         return is_so(self._body, numbers)
+
+
+def check_wish(wish):
+    """Raise BadWish for what is no Wish."""
+    if not isinstance(wish, Wish):
+        raise BadWish(wish)
 
 
 def bad_body_at(bodies):

@@ -320,3 +320,116 @@ def any_term_of(chance, names):
 
 def chance_of(seed):
     return random.Random(seed)
+
+
+def value_by_hand(term, numbers):
+    """What a term comes to; names with a coefficient 0 need no number."""
+    return term[1] + sum(number * numbers[name] for name, number in term[0].items() if number != 0)
+
+
+def is_so_by_hand(body, numbers):
+    """Whether a body is so at numbers."""
+    if body[0] == "not":
+        return not is_so_by_hand(body[1], numbers)
+    if body[0] in ("all", "any"):
+        found = [is_so_by_hand(inner, numbers) for inner in body[1]]
+        return all(found) if body[0] == "all" else any(found)
+    value = value_by_hand(body[-1], numbers)
+    return {"row": value >= 0, "same": value == 0, "by": body[0] == "by" and value % body[1] == 0}[body[0]]
+
+
+def inner_by_hand(statement):
+    """The statements that stand directly in one, by turns."""
+    return {"give": [], "none": [], "let": list(statement[4:]), "most": list(statement[3:]), "if": list(statement[2:]), "first": list(statement[4:])}[statement[0]]
+
+
+def run_by_hand(program, given):
+    """The triple of the answer, the steps and the places that are come to."""
+    there, numbers, place, taken = program.statement(), dict(given), [], 0
+    found = [[]]
+    while there[0] not in ("give", "none"):
+        turn, own = 0, 1
+        if there[0] == "let":
+            numbers[there[1]] = value_by_hand(there[3], numbers) // there[2]
+        elif there[0] == "most":
+            numbers[there[1]] = max(value_by_hand(term, numbers) for term in there[2])
+        elif there[0] == "if":
+            turn = 0 if is_so_by_hand(there[1], numbers) else 1
+        else:
+            right = [k for k in range(there[2]) if all(is_so_by_hand(test, {**numbers, there[1]: k}) for test in there[3])]
+            turn, own = (0, right[0] + 1) if right else (1, there[2])
+            if right:
+                numbers[there[1]] = right[0]
+        there, place, taken = inner_by_hand(there)[turn], place + [turn], taken + own
+        found.append(place)
+    answer = None
+    if there[0] == "give":
+        answer = {name: value_by_hand(term, numbers) for name, term in zip(program.outputs(), there[1])}
+    return answer, taken + 1, found
+
+
+def put_by_hand(thing, name, term):
+    """A term, a test or a body in which a term stands in the place of a name, told."""
+    if type(thing[0]) is dict:
+        parts, constant = {other: number for other, number in thing[0].items() if other != name}, thing[1]
+        times = thing[0].get(name, 0)
+        for other, number in term[0].items():
+            parts[other] = parts.get(other, 0) + times * number
+        return ({other: parts[other] for other in sorted(parts) if parts[other] != 0}, constant + times * term[1])
+    if thing[0] == "not":
+        return ("not", put_by_hand(thing[1], name, term))
+    if thing[0] in ("all", "any"):
+        return (thing[0], [put_by_hand(inner, name, term) for inner in thing[1]])
+    return (*thing[:-1], put_by_hand(thing[-1], name, term))
+
+
+def ways_by_hand(program):
+    """For each place, in order, the quadruples of names, bodies, steps and statement of the ways down to it."""
+    found = {}
+
+    def go(place, names, bodies, taken, there):
+        found.setdefault(tuple(place), []).append((names, bodies, taken, there))
+        kind, inner = there[0], inner_by_hand(there)
+        if kind == "if":
+            go(place + [0], names, bodies + [there[1]], taken + 1, inner[0])
+            go(place + [1], names, bodies + [("not", there[1])], taken + 1, inner[1])
+        elif kind == "let":
+            coefficients = {**there[3][0], there[1]: -there[2]}
+            low = put_by_hand((coefficients, there[3][1]), "", ({}, 0))
+            high = ({name: -number for name, number in low[0].items()}, there[2] - 1 - low[1])
+            go(place + [0], names + [there[1]], bodies + [("row", low), ("row", high)], taken + 1, inner[0])
+        elif kind == "most":
+            beside = [put_by_hand(({there[1]: 1, **{name: -number for name, number in term[0].items()}}, -term[1]), "", ({}, 0)) for term in there[2]]
+            own = [("row", term) for term in beside] + [("any", [("same", term) for term in beside])]
+            go(place + [0], names + [there[1]], bodies + own, taken + 1, inner[0])
+        elif kind == "first":
+            failed = [("not", ("all", [put_by_hand(test, there[1], ({}, k)) for test in there[3]])) for k in range(there[2])]
+            for k in range(there[2]):
+                own = [("same", ({there[1]: 1}, -k)), *failed[:k], *there[3]]
+                go(place + [0], names + [there[1]], bodies + own, taken + k + 1, inner[0])
+            go(place + [1], names, bodies + failed, taken + there[2], inner[1])
+
+    go([], program.inputs(), [], 0, program.statement())
+    return found
+
+
+def told_system(system):
+    """What a system tells, with all kinds and orders."""
+    return shape((system.names(), system.bodies()))
+
+
+def told_by_hand(names, bodies):
+    return shape((names, [told_body_by_hand(body) for body in bodies]))
+
+
+def told_body_by_hand(body):
+    """A body with lists for lists and told terms."""
+    return put_by_hand(body, "", ({}, 0))
+
+
+def refused(case, error, kept, ask, thing):
+    """Check that ask raises this very error, which keeps this very thing under a name."""
+    with case.assertRaises(error) as caught:
+        ask()
+    case.assertIs(type(caught.exception), error)
+    case.assertIs(getattr(caught.exception, kept), thing)

@@ -29,6 +29,15 @@ INTERFACE = {
     "heldagainst": "against follows alike parted core is_core",
     "ways": "ways way_at",
     "judged": "questions papers_for wrong_at is_right are_papers_for is_wrong_at",
+    "deadplaces": "comings comes_to dead_papers dead_places",
+    "stepsmost": "longer takes_more steps_papers greatest_steps",
+    "unlikes": "unlike_ways unlike_at alike_papers",
+    "nameout": "set_of without",
+    "maker": "system_at when made",
+    "cheapest": "cheaper_at cost_claims falls least_claims cheapest",
+    "sure": "broken_by sure sure_wish breaking",
+    "machine": "is_code play lines_done as_program",
+    "charts": "wanted_at is_chart chart_fault code_of fewest_registers",
 }
 PARAMETERS = {
     "mix_of": "system solution point", "loose_least": "system term", "is_loose_least": "system term thing", "least_of": "system term",
@@ -41,6 +50,19 @@ PARAMETERS.update({name: "names one other" for name in "against follows alike pa
 PARAMETERS.update({name: "program wish" for name in "questions papers_for wrong_at is_right".split()})
 PARAMETERS.update({
     name: "system" for name in "solution gauge loose_point loose_sum loose_quarrel point_of paper_of quarrel needed core".split()
+})
+PARAMETERS.update({name: "program place" for name in "comings comes_to dead_papers wanted_at".split()})
+PARAMETERS.update({name: "program number" for name in "longer takes_more steps_papers".split()})
+PARAMETERS.update({name: "program" for name in "dead_places greatest_steps code_of fewest_registers".split()})
+PARAMETERS.update({name: "program other" for name in "unlike_ways unlike_at alike_papers".split()})
+PARAMETERS.update({name: "program wish term" for name in "cheaper_at cost_claims".split()})
+PARAMETERS.update({name: "wish term" for name in "falls least_claims cheapest".split()})
+PARAMETERS.update({name: "wish name low high" for name in "sure_wish breaking".split()})
+PARAMETERS.update({name: "program code given" for name in "play lines_done".split()})
+PARAMETERS.update({
+    "set_of": "case name numbers", "without": "case name", "system_at": "wish given", "when": "wish", "made": "wish",
+    "broken_by": "case name low high numbers", "sure": "case name low high", "is_code": "program thing",
+    "as_program": "program code", "is_chart": "program code thing", "chart_fault": "program code chart",
 })
 ITERABLE = {"range", "zip", "enumerate", "reversed", "items", "keys", "values"}
 TAKERS = {"list", "tuple", "dict", "sorted", "sum", "any", "all", "enumerate", "zip", "min", "max"}
